@@ -1,0 +1,1 @@
+"""Programs whose bodies are exchanged while many runners are in the midst of calls."""
