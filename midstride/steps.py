@@ -1,6 +1,6 @@
 """Steps, bodies and books, and the changes that make one book out of another."""
 
-from midstride.errors import BadBook, BadChanges, BadWord
+from midstride.errors import BadBody, BadBook, BadChanges, BadWord
 
 LONGEST_WORD = 8
 MOST_STEPS = 9
@@ -76,6 +76,12 @@ def has_body_or_none(thing):
 # some numbers and lists are too large or too deep for Python to write out.
 
 
+def need_body(body):
+    """Refuse what is no body."""
+    if not is_body(body):
+        raise BadBody("this is no body: a list of 0 to 9 steps")
+
+
 def need_book(book):
     """Refuse what is no book."""
     if not is_book(book):
@@ -92,6 +98,11 @@ def need_changes(changes):
     """Refuse what are no changes."""
     if not is_changes(changes):
         raise BadChanges("these are no changes: a list of pairs of a word and a body or None, each word once")
+
+
+def bodies_of(book):
+    """The bodies of the book by their words, each list anew."""
+    return {word: list(body) for word, body in book}
 
 
 def told(book, word):

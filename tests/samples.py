@@ -1,4 +1,15 @@
-"""Right and wrong words, steps and bodies that several tests share."""
+"""Right and wrong words, steps, bodies, books and calls that several tests share."""
+
+import unittest
+
+
+class Refusing(unittest.TestCase):
+    """Tests that ask for a refusal of one class and of no other one."""
+
+    def refused(self, error, action, *handed):
+        with self.assertRaises(error) as caught:
+            action(*handed)
+        self.assertIs(type(caught.exception), error)
 
 
 def deep_list():
@@ -97,3 +108,63 @@ def no_pairs():
     wrong += [(word, []) for word in NO_WORDS]
     wrong += [("b", body) for body in no_bodies()]
     return wrong
+
+
+def no_books():
+    """What is no book."""
+    wrong = ODDMENTS + [0, HUGE, "", "a", "a: say\n", (), (("a", []),), ("a", []), {"a": []}, deep_list(),
+                        endless_list(),
+                        [("b", []), ("a", [])], [("a", []), ("a", [])], [("a", [("say",)]), ("a", [("end",)])],
+                        [("a", []), ("b", []), ("b", [])], [("a", []), ("c", []), ("b", [])],
+                        [("ab", []), ("a", [])], [("b", []), ("aa", [])], [("a", []), ("b", []), ("a", [])],
+                        [("a", None)], [("a", []), ("b", None)], ["a", []], [["a", []]]]
+    for pair in no_pairs():
+        wrong.append([pair])
+        wrong.append([("a", []), pair])
+        wrong.append([pair, ("zzzzzzzz", [])])
+    return wrong
+
+
+NO_NUMBERS = ODDMENTS + ["", "1", "a", [], [1], (), (1,), deep_list(), endless_list()]
+
+NO_HEARD = [thing for thing in ODDMENTS] + [0, 1, "", "12", (), (1, 2), [0] * 21, list(range(22)), [[]], [[1]],
+                                            deep_list(), endless_list()]
+NO_HEARD += [[number] for number in NO_NUMBERS] + [[1] * 19 + [number] for number in NO_NUMBERS]
+
+NO_STRENGTHS = NO_NUMBERS + [-1, 121, 122, -120, HUGE, -HUGE]
+
+
+def no_calls():
+    """What is no call: other kinds, a part too few or too many, each part spoilt, and parts out of turn."""
+    wrong = ODDMENTS + [0, HUGE, "", "a", [], ["a", 0, [], 0], "abcd", deep_list(), endless_list(),
+                        {"a": 0, "b": 1, "c": 2, "d": 3}]
+    wrong += [(), ("a",), ("a", 0), ("a", 0, []), (0, [], 0), ("a", [], 0), ("a", 0, 0), ("a", 0, [], 0, 0),
+              ("a", 0, [], 0, None), ("a", 0, [], 0, "a", 1)]
+    wrong += [(word, 0, [], 0) for word in NO_WORDS]
+    wrong += [("a", number, [], 0) for number in NO_NUMBERS]
+    wrong += [("a", 0, heard, 0) for heard in NO_HEARD]
+    wrong += [("a", 0, [], strength) for strength in NO_STRENGTHS]
+    wrong += [(0, "a", [], 0), ("a", [], 0, 0), ("a", 0, 0, [])]
+    return wrong
+
+
+def drawn_step(chance):
+    """A step drawn by chance, out of few words."""
+    name = chance.choice(["say", "say", "hear", "end", "plus", "times", "turn", "ask", "ask", "ask", "odd", "odd"])
+    if name in ("say", "hear", "end"):
+        return (name,)
+    if name in ("ask", "odd"):
+        return (name, chance.choice("abcdabcdabcde"))
+    return (name, chance.randint(-99, 99))
+
+
+def drawn_book(chance):
+    """A book of few words drawn by chance; some that its steps name have no body."""
+    words = [word for word in "abcd" if chance.randrange(9)]
+    return [(word, [drawn_step(chance) for _ in range(chance.randrange(10))]) for word in words]
+
+
+def drawn_call(chance):
+    """A call drawn by chance for a drawn book; its word may have no body there."""
+    heard = [chance.randint(-5, 5) for _ in range(chance.choice([0, 1, 2, 5, 20]))]
+    return (chance.choice("aabcde"), chance.randint(-9, 9), heard, chance.choice([0, 1, 2, 5, 20, 119, 120]))

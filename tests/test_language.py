@@ -16,6 +16,16 @@ BUILTINS = set("""len range enumerate zip min max sum abs sorted reversed int st
 BARRED_WORDS = set("""type typing typing_extensions enum Enum IntEnum StrEnum Flag IntFlag Generic Protocol ABC
     ABCMeta namedtuple NamedTuple TypedDict TYPE_CHECKING abstractmethod""".split())
 
+METHODS = set("""append clear copy count endswith extend find get index insert isalnum isalpha isdigit islower isspace
+    isupper items join keys ljust lower lstrip partition pop remove replace reverse rfind rjust rpartition rsplit rstrip
+    setdefault split splitlines startswith strip update upper values zfill bit_length title capitalize swapcase casefold
+    center expandtabs removeprefix removesuffix rindex isascii isdecimal isnumeric istitle isidentifier isprintable add
+    discard sort""".split())
+
+BARRED_NAMES = set("""register mro elements open input version_info with_traceback add_note attrgetter breakpoint
+    builtins compile copyright credits delattr dir eval exec exit gc getattr globals hasattr help id importlib license
+    locals methodcaller os quit setattr super type vars sys __name__ format format_map""".split())
+
 BARRED_NODES = (ast.Import, ast.Global, ast.AsyncFunctionDef, ast.AsyncFor, ast.AsyncWith, ast.Await, ast.Div)
 
 
@@ -42,6 +52,29 @@ def bound_names(node):
     if isinstance(node, ast.Attribute):
         return [node.attr]
     return []
+
+
+def defined_names(text):
+    """The names that a file binds at module level, but for its imports."""
+    names = []
+    for row in ast.parse(text).body:
+        if isinstance(row, (ast.FunctionDef, ast.ClassDef)):
+            names.append(row.name)
+        if isinstance(row, ast.Assign):
+            names += [target.id for target in row.targets]
+    return names
+
+
+def imported_names(text):
+    """Pairs of a module and a name that a file imports from it."""
+    return [(row.module, alias.name) for row in ast.parse(text).body if isinstance(row, ast.ImportFrom)
+            for alias in row.names]
+
+
+def own_methods():
+    """The names of all methods of all classes."""
+    return {row.name for _, node in nodes() if isinstance(node, ast.ClassDef)
+            for row in node.body if isinstance(row, ast.FunctionDef)}
 
 
 class Language(unittest.TestCase):
@@ -76,6 +109,51 @@ class Language(unittest.TestCase):
                 self.assertRegex(node.module, r"^midstride\.[a-z]", name)
                 self.assertEqual(node.level, 0, name)
                 self.assertNotIn("*", [alias.name for alias in node.names], name)
+
+    def test_imports_name_the_file_that_defines_the_name(self):
+        defined = {f"midstride.{path.stem}": defined_names(text) for path, text in files()}
+        for path, text in files():
+            for module, name in imported_names(text):
+                self.assertIn(name, defined[module], path)
+
+    def test_no_files_import_one_another(self):
+        ahead = {f"midstride.{path.stem}": {module for module, _ in imported_names(text)} for path, text in files()}
+        while ahead:
+            free = [module for module in ahead if not ahead[module] & set(ahead)]
+            self.assertTrue(free, f"these import one another: {sorted(ahead)}")
+            ahead = {module: ahead[module] for module in ahead if module not in free}
+
+    def test_module_level_names_are_bound_once(self):
+        for path, text in files():
+            names = defined_names(text) + [name for _, name in imported_names(text)]
+            self.assertEqual(sorted(names), sorted(set(names)), path)
+
+    def test_local_names_are_none_of_imports_or_classes(self):
+        for path, text in files():
+            tree = ast.parse(text)
+            kept = {name for _, name in imported_names(text)}
+            kept |= {row.name for row in tree.body if isinstance(row, ast.ClassDef)}
+            for node in ast.walk(tree):
+                if isinstance(node, (ast.Name, ast.arg)):
+                    self.assertFalse(kept & set(bound_names(node)), path)
+
+    def test_called_methods(self):
+        own = own_methods()
+        for name, node in nodes():
+            if isinstance(node, ast.Call) and isinstance(node.func, ast.Attribute):
+                self.assertIn(node.func.attr, own | METHODS, name)
+
+    def test_no_name_is_both_a_method_and_an_attribute(self):
+        stored = {node.attr for _, node in nodes() if isinstance(node, ast.Attribute)
+                  and isinstance(node.ctx, ast.Store)}
+        self.assertEqual(own_methods() & stored, set())
+        plain = {name for name in own_methods() | stored if not name.startswith("__")}
+        for kind in (str, int, list, dict, set, bytes):
+            self.assertEqual(plain & set(dir(kind)), set())
+
+    def test_barred_names(self):
+        for name, node in nodes():
+            self.assertFalse(BARRED_NAMES & set(bound_names(node)), name)
 
     def test_statements_and_values(self):
         for name, node in nodes():

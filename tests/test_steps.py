@@ -5,8 +5,8 @@ import unittest
 
 from midstride.errors import BadBook, BadChanges, BadWord
 from midstride.steps import exchanged, told
-from tests.samples import (BODIES, HUGE, NO_WORDS, ODDMENTS, STEPS, WORDS, deep_list, endless_list, no_bodies,
-                           no_pairs)
+from tests.samples import (BODIES, HUGE, NO_WORDS, ODDMENTS, Refusing, STEPS, WORDS, deep_list, endless_list,
+                           no_bodies, no_books, no_pairs)
 
 SAY = [("say",)]
 END = [("end",)]
@@ -16,21 +16,6 @@ HEAR = [("hear",), ("ask", "d")]
 def small_book():
     """Three words with room ahead of, between and behind them; the middle body is empty."""
     return [("b", list(SAY)), ("d", []), ("f", list(HEAR))]
-
-
-def no_books():
-    """What is no book."""
-    wrong = ODDMENTS + [0, HUGE, "", "a", "a: say\n", (), (("a", []),), ("a", []), {"a": []}, deep_list(),
-                        endless_list(),
-                        [("b", []), ("a", [])], [("a", []), ("a", [])], [("a", SAY), ("a", END)],
-                        [("a", []), ("b", []), ("b", [])], [("a", []), ("c", []), ("b", [])],
-                        [("ab", []), ("a", [])], [("b", []), ("aa", [])], [("a", []), ("b", []), ("a", [])],
-                        [("a", None)], [("a", []), ("b", None)], ["a", []], [["a", []]]]
-    for pair in no_pairs():
-        wrong.append([pair])
-        wrong.append([("a", []), pair])
-        wrong.append([pair, ("zzzzzzzz", [])])
-    return wrong
 
 
 def no_changes():
@@ -43,14 +28,6 @@ def no_changes():
         wrong.append([("a", None), pair])
         wrong.append([pair, ("a", None)])
     return wrong
-
-
-class Refusing(unittest.TestCase):
-
-    def refused(self, error, action, *handed):
-        with self.assertRaises(error) as caught:
-            action(*handed)
-        self.assertIs(type(caught.exception), error)
 
 
 class Told(Refusing):
