@@ -1,6 +1,6 @@
-"""What steps may use by a book, and a shortest row of words to each of these words."""
+"""What steps may use by a book, and the rows of words that lead to it."""
 
-from midstride.steps import WORD_STEPS, bodies_of, need_body, need_book, need_word
+from midstride.steps import WORD_STEPS, bodies_of, need_body, need_book, need_word, unlike
 
 
 def named(steps):
@@ -34,6 +34,23 @@ def row_to(word, ahead):
         row.append(word)
         word = ahead[word]
     return row[::-1]
+
+
+def row_to_unlike(ahead, bodies, others):
+    """The row to a word that stands in `ahead` and is unlike in both, empty if there is none."""
+    for word in ahead:
+        if unlike(bodies, others, word):
+            return row_to(word, ahead)
+    return []
+
+
+def is_row(words, steps, bodies):
+    """Whether it is a row of words from the steps, one word at least, be it a shortest one or not."""
+    for word in words:
+        if word not in named(steps):
+            return False
+        steps = bodies.get(word, [])
+    return len(words) > 0
 
 
 def may_use(steps, book):

@@ -1,5 +1,7 @@
 """What goes through a call, step by step."""
 
+from midstride.steps import copied
+
 
 class Runner:
     """A call under way, or over.
@@ -93,7 +95,7 @@ class Runner:
 
     def told_uses(self):
         """What it has used: pairs of a word and its body, or None, in the turn of their first use."""
-        return [(word, None if body is None else list(body)) for word, body in self.uses.items()]
+        return copied(list(self.uses.items()))
 
     def steps_left(self):
         """The steps that are left in all bodies, those of the body begun last first."""

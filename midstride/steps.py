@@ -37,9 +37,14 @@ def is_step(thing):
     return name in WORD_STEPS and is_word(part)
 
 
+def is_steps(thing):
+    """Whether it is a list of steps, any many."""
+    return isinstance(thing, list) and all(is_step(step) for step in thing)
+
+
 def is_body(thing):
     """Whether it is a body."""
-    return isinstance(thing, list) and len(thing) <= MOST_STEPS and all(is_step(step) for step in thing)
+    return is_steps(thing) and len(thing) <= MOST_STEPS
 
 
 def is_book(thing):
@@ -105,6 +110,32 @@ def bodies_of(book):
     return {word: list(body) for word, body in book}
 
 
+def book_of(bodies):
+    """The book of the bodies by their words, each list anew."""
+    return [(word, list(bodies[word])) for word in sorted(bodies)]
+
+
+def copied(pairs):
+    """The pairs of a word and a body or None, each list anew."""
+    return [(word, None if body is None else list(body)) for word, body in pairs]
+
+
+def changed(bodies, changes):
+    """The bodies by their words behind the changes; those that aren't changed are the same lists as ahead."""
+    after = dict(bodies)
+    for word, body in copied(changes):
+        if body is not None:
+            after[word] = body
+        elif word in after:
+            del after[word]
+    return after
+
+
+def unlike(bodies, others, word):
+    """Whether the word has unlike bodies, or one and none, in both."""
+    return bodies.get(word) != others.get(word)
+
+
 def told(book, word):
     """The body of the word in the book, or None if it has none."""
     need_book(book)
@@ -119,6 +150,4 @@ def exchanged(book, changes):
     """The book behind the changes."""
     need_book(book)
     need_changes(changes)
-    # The changes stand behind the book here, so that theirs are the bodies that stay.
-    bodies = {word: body for word, body in [*book, *changes]}
-    return [(word, list(bodies[word])) for word in sorted(bodies) if bodies[word] is not None]
+    return book_of(changed(bodies_of(book), changes))

@@ -1,6 +1,9 @@
-"""Right and wrong words, steps, bodies, books and calls that several tests share."""
+"""Right and wrong words, steps, bodies, books and calls that several tests share, and a second way of reckoning."""
 
+import copy
 import unittest
+
+from midstride.papers import Barred, Let
 
 
 class Refusing(unittest.TestCase):
@@ -61,6 +64,11 @@ STEPS = [("say",), ("hear",), ("end",),
          ("plus", 0), ("plus", -99), ("plus", 99), ("times", 0), ("times", -99), ("times", 99),
          ("turn", 0), ("turn", -99), ("turn", 99),
          ("ask", "a"), ("ask", "z"), ("ask", "abcdefgh"), ("odd", "a"), ("odd", "z"), ("odd", "abcdefgh")]
+
+
+def ask(*words):
+    """Steps that ask the words."""
+    return [("ask", word) for word in words]
 
 
 def no_steps():
@@ -125,6 +133,18 @@ def no_books():
     return wrong
 
 
+def no_changes():
+    """What are no changes."""
+    wrong = ODDMENTS + [0, HUGE, "", "a", (), (("a", []),), ("a", []), {"a": None}, deep_list(), endless_list(),
+                        [("a", []), ("a", [])], [("a", []), ("a", None)], [("a", None), ("a", None)],
+                        [("b", []), ("a", []), ("b", [("say",)])], ["a", None], [["a", None]]]
+    for pair in no_pairs():
+        wrong.append([pair])
+        wrong.append([("a", None), pair])
+        wrong.append([pair, ("a", None)])
+    return wrong
+
+
 NO_NUMBERS = ODDMENTS + ["", "1", "a", [], [1], (), (1,), deep_list(), endless_list()]
 
 NO_HEARD = [thing for thing in ODDMENTS] + [0, 1, "", "12", (), (1, 2), [0] * 21, list(range(22)), [[]], [[1]],
@@ -168,3 +188,93 @@ def drawn_call(chance):
     """A call drawn by chance for a drawn book; its word may have no body there."""
     heard = [chance.randint(-5, 5) for _ in range(chance.choice([0, 1, 2, 5, 20]))]
     return (chance.choice("aabcde"), chance.randint(-9, 9), heard, chance.choice([0, 1, 2, 5, 20, 119, 120]))
+
+
+def drawn_changes(chance):
+    """Changes of few words drawn by chance, none too."""
+    words = chance.sample("abcde", chance.choice([0, 1, 1, 1, 2]))
+    return [(word, chance.choice([None, [], [drawn_step(chance)], [drawn_step(chance) for _ in range(5)]]))
+            for word in words]
+
+
+def drawn_editions(chance):
+    """Editions drawn by chance, each one a little changed from the one ahead, or the one ahead of that again."""
+    editions = [drawn_book(chance)]
+    while chance.randrange(4):
+        bodies = dict(editions[-1]) | dict(drawn_changes(chance))
+        book = [(word, bodies[word]) for word in sorted(bodies) if bodies[word] is not None]
+        editions.append(copy.deepcopy(chance.choice([book, book, editions[-2:][0]])))
+    return editions
+
+
+def drawn_view(chance, editions, name):
+    """A view drawn by chance; what was used is mostly told as one of the editions has it."""
+    book = dict(chance.choice(editions))
+    uses = [(word, copy.deepcopy(book.get(word))) for word in chance.sample("abcde", chance.choice([0, 1, 1, 2, 3]))]
+    if not chance.randrange(9) and uses:
+        uses[-1] = (uses[-1][0], chance.choice([None, [], [drawn_step(chance)]]))
+    left = [drawn_step(chance) for _ in range(chance.choice([0, 0, 1, 2, 5, 30]))]
+    return (name, chance.randrange(len(editions)), uses, left)
+
+
+def named(steps):
+    """The words that the steps name."""
+    return {step[1] for step in steps if step[0] in ("ask", "odd")}
+
+
+def reached(steps, book):
+    """The words that the steps may use: found by taking in all bodies of those found, till they name nothing new."""
+    words, more = None, named(steps)
+    while more != words:
+        words = more
+        more = words | {further for word, body in book if word in words for further in named(body)}
+    return words
+
+
+def leads(row, steps, book):
+    """Whether the row, of one word at least, leads on from the steps by the book."""
+    bodies = dict(book)
+    ahead = [steps] + [bodies.get(word, []) for word in row]
+    return len(row) > 0 and all(word in named(body) for word, body in zip(row, ahead))
+
+
+def alike(one, other, words):
+    """Whether each of the words has the same body, or none, in both lists of pairs."""
+    return all(dict(one).get(word) == dict(other).get(word) for word in words)
+
+
+def standing(editions, view):
+    """The editions that stand for the view."""
+    _, first, uses, left = view
+    used_words, later_words = [word for word, _ in uses], reached(left, editions[-1])
+    return [at for at in range(first, len(editions))
+            if alike(editions[at], uses, used_words) and alike(editions[at], editions[-1], later_words)]
+
+
+def is_reason(reason, editions, at, view):
+    """Whether the reason tells rightly why that edition doesn't stand for the view."""
+    sort, told = reason
+    if sort == "used":
+        return told in dict(view[2]) and not alike(editions[at], view[2], [told])
+    return sort == "may" and leads(told, view[3], editions[-1]) and not alike(editions[at], editions[-1], told[-1:])
+
+
+class PaperReading(Refusing):
+    """Tests that read papers."""
+
+    def right_paper(self, paper, editions, views):
+        """The paper is as it must be of these editions and views, and it shows that itself."""
+        barring = [view for view in views if not standing(editions, view)]
+        if barring:
+            self.assertIs(type(paper), Barred)
+            self.assertEqual([(name, len(reasons)) for name, reasons in paper.reasons],
+                             [(view[0], len(editions) - view[1]) for view in barring])
+            for (_, reasons), view in zip(paper.reasons, barring):
+                for at, reason in enumerate(reasons, view[1]):
+                    self.assertTrue(is_reason(reason, editions, at, view), (reason, at, view))
+        else:
+            self.assertIs(type(paper), Let)
+            self.assertEqual([name for name, _ in paper.witnesses], [view[0] for view in views])
+            for (_, edition), view in zip(paper.witnesses, views):
+                self.assertIn(edition, standing(editions, view))
+        self.assertIs(paper.shows(editions, views), True)

@@ -26,6 +26,11 @@ BARRED_NAMES = set("""register mro elements open input version_info with_traceba
     builtins compile copyright credits delattr dir eval exec exit gc getattr globals hasattr help id importlib license
     locals methodcaller os quit setattr super type vars sys __name__ format format_map""".split())
 
+# What may be iterated on the spot alone, and the builtins that do so.
+FLEETING = {"zip", "enumerate", "reversed", "range"}
+FLEETING_METHODS = {"items", "keys", "values"}
+ITERATING = {"list", "tuple", "dict", "sorted", "sum", "any", "all", "enumerate", "zip", "min", "max"}
+
 BARRED_NODES = (ast.Import, ast.Global, ast.AsyncFunctionDef, ast.AsyncFor, ast.AsyncWith, ast.Await, ast.Div)
 
 
@@ -69,6 +74,19 @@ def imported_names(text):
     """Pairs of a module and a name that a file imports from it."""
     return [(row.module, alias.name) for row in ast.parse(text).body if isinstance(row, ast.ImportFrom)
             for alias in row.names]
+
+
+def iterated_on_the_spot(trees):
+    """Those of the nodes over which a loop, a comprehension, a builtin or a join iterates where they stand."""
+    spots = []
+    for _, node in trees:
+        if isinstance(node, (ast.For, ast.comprehension)):
+            spots.append(node.iter)
+        if isinstance(node, ast.Call) and isinstance(node.func, ast.Name) and node.func.id in ITERATING:
+            spots += node.args
+        if isinstance(node, ast.Call) and isinstance(node.func, ast.Attribute) and node.func.attr == "join":
+            spots += node.args
+    return spots
 
 
 def own_methods():
@@ -184,6 +202,18 @@ class Language(unittest.TestCase):
                 for sign, right in zip(node.ops, node.comparators):
                     if isinstance(sign, (ast.Is, ast.IsNot)):
                         self.assertIn(getattr(right, "value", 0), (None, True, False), name)
+
+    def test_what_is_iterated_on_the_spot_alone(self):
+        trees = nodes()
+        spots = iterated_on_the_spot(trees)
+        for name, node in trees:
+            fleeting = isinstance(node, ast.GeneratorExp)
+            if isinstance(node, ast.Call) and isinstance(node.func, ast.Name):
+                fleeting = node.func.id in FLEETING
+            if isinstance(node, ast.Call) and isinstance(node.func, ast.Attribute):
+                fleeting = node.func.attr in FLEETING_METHODS
+            if fleeting:
+                self.assertIn(node, spots, (name, node.lineno))
 
     def test_module_level(self):
         for path, text in files():

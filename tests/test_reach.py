@@ -6,22 +6,13 @@ import unittest
 
 from midstride.errors import BadBody, BadBook, BadWord
 from midstride.reach import chain, may_use
-from tests.samples import BODIES, NO_WORDS, Refusing, STEPS, drawn_book, drawn_step, no_bodies, no_books
+from tests.samples import (BODIES, NO_WORDS, Refusing, STEPS, ask, drawn_book, drawn_step, leads, named, no_bodies,
+                           no_books)
 
 SAY = ("say",)
 END = ("end",)
 
 WRONG_BODIES = [None] + no_bodies()
-
-
-def ask(*words):
-    """Steps that ask the words."""
-    return [("ask", word) for word in words]
-
-
-def named(steps):
-    """The words that the steps name."""
-    return {step[1] for step in steps if step[0] in ("ask", "odd")}
 
 
 def distances(steps, book):
@@ -37,13 +28,6 @@ def distances(steps, book):
 
 class Reach(Refusing):
 
-    def leads(self, steps, book, row, word):
-        """The row leads from the steps to the word, by the book."""
-        self.assertEqual(row[-1], word)
-        self.assertIn(row[0], named(steps))
-        for ahead, behind in zip(row, row[1:]):
-            self.assertIn(behind, named(dict(book)[ahead]))
-
     def reaches(self, steps, book, words):
         """Just these words may be used, and a shortest row leads to each of them."""
         self.assertEqual(may_use(steps, book), words)
@@ -51,7 +35,8 @@ class Reach(Refusing):
         self.assertEqual(sorted(far), words)
         for word in words:
             row = chain(steps, book, word)
-            self.leads(steps, book, row, word)
+            self.assertTrue(leads(row, steps, book))
+            self.assertEqual(row[-1], word)
             self.assertEqual(len(row), far[word])
         for word in ["a", "b", "c", "d", "e", "zzzzzzzz", "say", "ask"]:
             if word not in words:

@@ -5,8 +5,7 @@ import unittest
 
 from midstride.errors import BadBook, BadChanges, BadWord
 from midstride.steps import exchanged, told
-from tests.samples import (BODIES, HUGE, NO_WORDS, ODDMENTS, Refusing, STEPS, WORDS, deep_list, endless_list,
-                           no_bodies, no_books, no_pairs)
+from tests.samples import BODIES, NO_WORDS, Refusing, STEPS, WORDS, no_bodies, no_books, no_changes
 
 SAY = [("say",)]
 END = [("end",)]
@@ -16,18 +15,6 @@ HEAR = [("hear",), ("ask", "d")]
 def small_book():
     """Three words with room ahead of, between and behind them; the middle body is empty."""
     return [("b", list(SAY)), ("d", []), ("f", list(HEAR))]
-
-
-def no_changes():
-    """What are no changes."""
-    wrong = ODDMENTS + [0, HUGE, "", "a", (), (("a", []),), ("a", []), {"a": None}, deep_list(), endless_list(),
-                        [("a", []), ("a", [])], [("a", []), ("a", None)], [("a", None), ("a", None)],
-                        [("b", []), ("a", []), ("b", SAY)], ["a", None], [["a", None]]]
-    for pair in no_pairs():
-        wrong.append([pair])
-        wrong.append([("a", None), pair])
-        wrong.append([pair, ("a", None)])
-    return wrong
 
 
 class Told(Refusing):
